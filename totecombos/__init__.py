@@ -1,0 +1,1 @@
+"""Combinations of a totalisator's pools: see totecombos.pools for the calls."""

@@ -1,0 +1,31 @@
+"""The calls. Each answers a list of whole numbers; a refusal is a number below 0, alone."""
+
+from totecombos.cards import MOST_BYTES, read_pools
+
+TOO_LONG = -2
+NO_POOL = -4
+NO_CARD = -6
+
+
+def refusal_of(pool, text, pools):
+    """The refusal of a call, 0 if it is none. pools: what read_pools says of the text."""
+    if len(text) > MOST_BYTES:
+        return TOO_LONG
+    if pools is None:
+        return NO_CARD
+    if pool >= len(pools):
+        return NO_POOL
+    return 0
+
+
+def sets(pool, text):
+    """0, how many sets the pool has; then of each how many numbers it has, these."""
+    pools = read_pools(text)
+    refusal = refusal_of(pool, text, pools)
+    if refusal != 0:
+        return [refusal]
+    answer = [0, len(pools[pool].sets)]
+    for interests in pools[pool].sets:
+        answer.append(len(interests))
+        answer.extend(interests)
+    return answer
