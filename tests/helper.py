@@ -1,10 +1,21 @@
 """What the tests share: building cards, asking, and a second reading of the document to compare with."""
 
+import itertools
 import re
 
-from totecombos.pools import sets
+from totecombos.pools import many, sets
 
 NO_CARD = [-6]
+LAST = 4294967295
+
+# Every call with a text, by pool and text alone.
+CALLS = {
+    "sets": sets,
+    "many": many,
+}
+
+EACH_KIND = tuple([f"{kind} {k}" for kind, low, high in (("place", 1, 4), ("order", 2, 4), ("any", 2, 3), ("legs", 2, 6))
+                   for k in range(low, high + 1)])
 
 
 def text_of(words):
@@ -73,19 +84,62 @@ def model_pool(line, races):
             and 1 <= unit <= 10000 and (least == 0 or unit <= least <= 2 * unit)
             and not (kind == "place" and none == b"fewer")
             and (len(sets_of) == k if kind == "legs" else len(sets_of[0]) >= k))
-    return (name, sets_of) if good else None
+    return (name, kind, k, sets_of) if good else None
+
+
+def model_card(text):
+    """The pools of a card, each as its name, kind, k and sets; None if the text is no card."""
+    found = CARD.fullmatch(bytes(text))
+    if found is None:
+        return None
+    races = [model_race(line) for line in found[1].splitlines(keepends=True)]
+    if None in races:
+        return None
+    pools = [model_pool(line, races) for line in found[2].splitlines(keepends=True)]
+    if None in pools or len({pool[0] for pool in pools}) < len(pools):
+        return None
+    return pools
+
+
+def model_asked(pool, text):
+    """0 and the kind, k and sets of the pool that is asked for, or the refusal and nothing."""
+    if len(text) > 65536:
+        return -2, None
+    pools = model_card(text)
+    if pools is None:
+        return -6, None
+    return (0, pools[pool][1:]) if pool < len(pools) else (-4, None)
 
 
 def model_sets(pool, text):
-    if len(text) > 65536:
-        return [-2]
-    found = CARD.fullmatch(bytes(text))
-    if found is None:
-        return [-6]
-    races = [model_race(line) for line in found[1].splitlines(keepends=True)]
-    if None in races:
-        return [-6]
-    pools = [model_pool(line, races) for line in found[2].splitlines(keepends=True)]
-    if None in pools or len({name for name, sets_of in pools}) < len(pools):
-        return [-6]
-    return told(*pools[pool][1]) if pool < len(pools) else [-4]
+    refusal, asked = model_asked(pool, text)
+    return [refusal] if asked is None else told(*asked[2])
+
+
+def model_rows(kind, k, sets_of):
+    """All combinations, one by one in the order of rows: every row over the sets, less those that are none."""
+    if kind == "place":
+        return [[one] for one in sets_of[0]]
+    if kind == "legs":
+        return sorted(list(row) for row in itertools.product(*sets_of))
+    rows = sorted(list(row) for row in itertools.product(sets_of[0], repeat=k))
+    if kind == "order":
+        return [row for row in rows if len(set(row)) == k]
+    return [row for row in rows if all(one < other for one, other in zip(row, row[1:]))]
+
+
+# Races of some interests and of few, with couples and without.
+SMALL_RACES = ("4", "6 couple 2 5", "3", "7 couple 1 7 couple 3 4 couple 3 5", "2", "5 couple 4 5", "3 couple 1 2",
+               "6 couple 1 2 couple 1 3 couple 1 4 couple 1 5 couple 1 6")
+
+
+def small_pools(kinds=EACH_KIND):
+    """Small pools of these kinds from each race that can have them: what to call it, the text, all combinations."""
+    found = []
+    for kind in kinds:
+        for race in range(1, len(SMALL_RACES) + 1):
+            text = text_of(card_of(SMALL_RACES, [pool_line(kind, race)]))
+            refusal, asked = model_asked(0, text)
+            if asked is not None:
+                found.append((f"{kind} from {race}", text, model_rows(*asked)))
+    return found

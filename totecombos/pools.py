@@ -1,6 +1,7 @@
 """The calls. Each answers a list of whole numbers; a refusal is a number below 0, alone."""
 
 from totecombos.cards import MOST_BYTES, read_pools
+from totecombos.combos import count_all
 
 TOO_LONG = -2
 NO_POOL = -4
@@ -29,3 +30,12 @@ def sets(pool, text):
         answer.append(len(interests))
         answer.extend(interests)
     return answer
+
+
+def many(pool, text):
+    """0, how many combinations the pool has."""
+    pools = read_pools(text)
+    refusal = refusal_of(pool, text, pools)
+    if refusal != 0:
+        return [refusal]
+    return [0, count_all(pools[pool])]
