@@ -3,19 +3,22 @@
 import itertools
 import re
 
-from totecombos.pools import many, sets
+from totecombos.pools import many, number, sets
 
 NO_CARD = [-6]
 LAST = 4294967295
 
-# Every call with a text, by pool and text alone.
+# Every call with a text, by pool and text alone; those that are handed more with something good and something bad.
 CALLS = {
     "sets": sets,
     "many": many,
+    "number of a row of one": lambda pool, text: number(pool, text, [1]),
+    "number of a row of two": lambda pool, text: number(pool, text, [3, 2]),
+    "number of a row of none": lambda pool, text: number(pool, text, [0] * 40),
 }
 
-EACH_KIND = tuple([f"{kind} {k}" for kind, low, high in (("place", 1, 4), ("order", 2, 4), ("any", 2, 3), ("legs", 2, 6))
-                   for k in range(low, high + 1)])
+EACH_KIND = ("place 1", "place 2", "place 3", "place 4", "order 2", "order 3", "order 4", "any 2", "any 3",
+             "legs 2", "legs 3", "legs 4", "legs 5", "legs 6")
 
 
 def text_of(words):
@@ -47,6 +50,16 @@ def told(*interests):
 
 def upto(runners):
     return list(range(1, runners + 1))
+
+
+class Frozen(list):
+    """A list that can't be changed, not for a while either."""
+
+    def refuse(self, *given, **named):
+        raise AssertionError("what was handed in is changed")
+
+    append = extend = insert = pop = remove = clear = sort = reverse = refuse
+    __setitem__ = __delitem__ = __iadd__ = __imul__ = refuse
 
 
 # The second reading: by patterns over the whole text, in another way than the program's.

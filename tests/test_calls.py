@@ -7,7 +7,7 @@ import io
 import unittest
 from unittest import mock
 
-from tests.helper import CALLS, LAST, card_of, pool_line, text_of
+from tests.helper import CALLS, LAST, Frozen, card_of, pool_line, text_of
 from totecombos import pools
 
 MOST = 65536
@@ -65,16 +65,6 @@ class Refusals(unittest.TestCase):
         for name, call in CALLS.items():
             self.assertEqual(call(63, text), call(0, text), name)
             self.assertEqual(call(64, text), [-4], name)
-
-
-class Frozen(list):
-    """A list that can't be changed, not for a while either."""
-
-    def refuse(self, *given, **named):
-        raise AssertionError("what was handed in is changed")
-
-    append = extend = insert = pop = remove = clear = sort = reverse = refuse
-    __setitem__ = __delitem__ = __iadd__ = __imul__ = refuse
 
 
 class NothingLeftBehind(unittest.TestCase):
@@ -139,6 +129,7 @@ class Interface(unittest.TestCase):
     ARGUMENTS = {
         "sets": ["pool", "text"],
         "many": ["pool", "text"],
+        "number": ["pool", "text", "row"],
     }
 
     def test_names_and_order_of_the_arguments(self):

@@ -1,8 +1,9 @@
 """The calls. Each answers a list of whole numbers; a refusal is a number below 0, alone."""
 
 from totecombos.cards import MOST_BYTES, read_pools
-from totecombos.combos import count_all
+from totecombos.combos import count_before, count_from, is_combination
 
+NONE_SUCH = -1
 TOO_LONG = -2
 NO_POOL = -4
 NO_CARD = -6
@@ -38,4 +39,15 @@ def many(pool, text):
     refusal = refusal_of(pool, text, pools)
     if refusal != 0:
         return [refusal]
-    return [0, count_all(pools[pool])]
+    return [0, count_from(pools[pool], [])]
+
+
+def number(pool, text, row):
+    """0, the number of the combination that the row is."""
+    pools = read_pools(text)
+    refusal = refusal_of(pool, text, pools)
+    if refusal != 0:
+        return [refusal]
+    if not is_combination(pools[pool], row):
+        return [NONE_SUCH]
+    return [0, count_before(pools[pool], row)]
