@@ -3,7 +3,7 @@
 import itertools
 import re
 
-from totecombos.pools import many, number, sets
+from totecombos.pools import many, number, of, sets
 
 NO_CARD = [-6]
 LAST = 4294967295
@@ -15,6 +15,8 @@ CALLS = {
     "number of a row of one": lambda pool, text: number(pool, text, [1]),
     "number of a row of two": lambda pool, text: number(pool, text, [3, 2]),
     "number of a row of none": lambda pool, text: number(pool, text, [0] * 40),
+    "of the first number": lambda pool, text: of(pool, 0, text),
+    "of the last number": lambda pool, text: of(pool, LAST, text),
 }
 
 EACH_KIND = ("place 1", "place 2", "place 3", "place 4", "order 2", "order 3", "order 4", "any 2", "any 3",

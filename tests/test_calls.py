@@ -130,6 +130,7 @@ class Interface(unittest.TestCase):
         "sets": ["pool", "text"],
         "many": ["pool", "text"],
         "number": ["pool", "text", "row"],
+        "of": ["pool", "number", "text"],
     }
 
     def test_names_and_order_of_the_arguments(self):

@@ -47,3 +47,18 @@ def count_before(pool, row):
             if one < row[at]:
                 total += count_from(pool, begun + [one])
     return total
+
+
+def row_at(pool, place):
+    """The combination that has place others before it; place is known to be below how many there are."""
+    row = []
+    left = place
+    for at in range(length_of(pool)):
+        begun = row
+        for one in followers_of(pool, begun):
+            count = count_from(pool, begun + [one])
+            if left < count:
+                row = begun + [one]
+                break
+            left -= count
+    return row

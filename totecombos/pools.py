@@ -1,7 +1,7 @@
 """The calls. Each answers a list of whole numbers; a refusal is a number below 0, alone."""
 
 from totecombos.cards import MOST_BYTES, read_pools
-from totecombos.combos import count_before, count_from, is_combination
+from totecombos.combos import count_before, count_from, is_combination, row_at
 
 NONE_SUCH = -1
 TOO_LONG = -2
@@ -51,3 +51,14 @@ def number(pool, text, row):
     if not is_combination(pools[pool], row):
         return [NONE_SUCH]
     return [0, count_before(pools[pool], row)]
+
+
+def of(pool, number, text):
+    """0, then the combination that has the number."""
+    pools = read_pools(text)
+    refusal = refusal_of(pool, text, pools)
+    if refusal != 0:
+        return [refusal]
+    if number >= count_from(pools[pool], []):
+        return [NONE_SUCH]
+    return [0] + row_at(pools[pool], number)
