@@ -3,7 +3,7 @@
 import itertools
 import re
 
-from totecombos.pools import many, number, of, sets
+from totecombos.pools import many, next_of, number, of, sets
 
 NO_CARD = [-6]
 LAST = 4294967295
@@ -17,6 +17,8 @@ CALLS = {
     "number of a row of none": lambda pool, text: number(pool, text, [0] * 40),
     "of the first number": lambda pool, text: of(pool, 0, text),
     "of the last number": lambda pool, text: of(pool, LAST, text),
+    "next_of the first number": lambda pool, text: next_of(pool, 0, 3, text),
+    "next_of the last number": lambda pool, text: next_of(pool, LAST, LAST, text),
 }
 
 EACH_KIND = ("place 1", "place 2", "place 3", "place 4", "order 2", "order 3", "order 4", "any 2", "any 3",

@@ -131,6 +131,7 @@ class Interface(unittest.TestCase):
         "many": ["pool", "text"],
         "number": ["pool", "text", "row"],
         "of": ["pool", "number", "text"],
+        "next_of": ["pool", "number", "runner", "text"],
     }
 
     def test_names_and_order_of_the_arguments(self):

@@ -1,5 +1,6 @@
 """Combinations of a pool: which rows are some, how many there are, and their numbers in the order of rows."""
 
+from totecombos.cards import Pool
 from totecombos.counts import arrangements, choices
 
 
@@ -38,27 +39,54 @@ def count_from(pool, begun):
     return total
 
 
-def count_before(pool, row):
-    """How many combinations of the pool stand before this one."""
+def without(pool, runner):
+    """The pool as if no set of it had the runner."""
+    sets = []
+    for interests in pool.sets:
+        sets.append([one for one in interests if one != runner])
+    return Pool(pool.kind, pool.k, sets)
+
+
+def count_with(pool, begun, runner):
+    """How many combinations begin so and have the runner in them; None as the runner: how many begin so."""
+    total = count_from(pool, begun)
+    if runner is None or runner in begun:
+        return total
+    return total - count_from(without(pool, runner), begun)
+
+
+def count_before(pool, row, runner=None):
+    """How many combinations, of those with the runner in them or of all, stand before this one."""
     total = 0
     for at in range(len(row)):
         begun = row[:at]
         for one in followers_of(pool, begun):
             if one < row[at]:
-                total += count_from(pool, begun + [one])
+                total += count_with(pool, begun + [one], runner)
     return total
 
 
-def row_at(pool, place):
-    """The combination that has place others before it; place is known to be below how many there are."""
+def row_at(pool, place, runner=None):
+    """Of the combinations with the runner in them, or of all, the one with place of them before it; it is there."""
     row = []
     left = place
     for at in range(length_of(pool)):
         begun = row
         for one in followers_of(pool, begun):
-            count = count_from(pool, begun + [one])
+            count = count_with(pool, begun + [one], runner)
             if left < count:
                 row = begun + [one]
                 break
             left -= count
     return row
+
+
+def next_with(pool, start, runner):
+    """The least number from start on of a combination that has the runner in it; None if there is none."""
+    if start >= count_from(pool, []):
+        return None
+    # As many with the runner stand before the one that is sought as stand before start, for it is the first from there.
+    before = count_before(pool, row_at(pool, start), runner)
+    if before == count_with(pool, [], runner):
+        return None
+    return count_before(pool, row_at(pool, before, runner))

@@ -1,12 +1,16 @@
 """The calls. Each answers a list of whole numbers; a refusal is a number below 0, alone."""
 
 from totecombos.cards import MOST_BYTES, read_pools
-from totecombos.combos import count_before, count_from, is_combination, row_at
+from totecombos.combos import count_before, count_from, is_combination, next_with, row_at
 
 NONE_SUCH = -1
 TOO_LONG = -2
 NO_POOL = -4
 NO_CARD = -6
+TOO_MANY = -9
+
+# A runner's next combination is told of no pool with more.
+MOST_COMBINATIONS = 65536
 
 
 def refusal_of(pool, text, pools):
@@ -62,3 +66,15 @@ def of(pool, number, text):
     if number >= count_from(pools[pool], []):
         return [NONE_SUCH]
     return [0] + row_at(pools[pool], number)
+
+
+def next_of(pool, number, runner, text):
+    """0, the least number above or equal to this one of a combination that has the runner in it."""
+    pools = read_pools(text)
+    refusal = refusal_of(pool, text, pools)
+    if refusal != 0:
+        return [refusal]
+    if count_from(pools[pool], []) > MOST_COMBINATIONS:
+        return [TOO_MANY]
+    found = next_with(pools[pool], number, runner)
+    return [NONE_SUCH] if found is None else [0, found]
