@@ -132,6 +132,7 @@ class Interface(unittest.TestCase):
         "number": ["pool", "text", "row"],
         "of": ["pool", "number", "text"],
         "next_of": ["pool", "number", "runner", "text"],
+        "choose": ["n", "k"],
     }
 
     def test_names_and_order_of_the_arguments(self):

@@ -100,6 +100,42 @@ class Code(unittest.TestCase):
             used = {node.id for node in ast.walk(tree) if isinstance(node, ast.Name)}
             self.assertLessEqual(used - own, BUILT_IN, path.name)
 
+    def test_no_parameter_or_local_is_called_like_a_class_or_an_import(self):
+        for path in FILES:
+            tree = ast.parse(path.read_text())
+            taken = {node.name for node in tree.body if isinstance(node, ast.ClassDef)}
+            taken |= {one.name for node in tree.body if isinstance(node, ast.ImportFrom) for one in node.names}
+            inner = {node.arg for node in ast.walk(tree) if isinstance(node, ast.arg)}
+            names = [node for node in ast.walk(tree) if isinstance(node, ast.Name)]
+            inner |= {node.id for node in names if isinstance(node.ctx, ast.Store)}
+            self.assertEqual(taken & inner, set(), path.name)
+
+    def test_imports_go_one_way(self):
+        drawn = {f"totecombos.{path.stem}": {node.module for node in ast.parse(path.read_text()).body
+                                             if isinstance(node, ast.ImportFrom)} for path in FILES}
+        while drawn:
+            ends = [name for name in drawn if not drawn[name] & set(drawn)]
+            self.assertNotEqual(ends, [], drawn)
+            for name in ends:
+                del drawn[name]
+
+    def test_identity_and_annotations(self):
+        for where, node in self.nodes(ast.Compare):
+            for operator, right in zip(node.ops, node.comparators):
+                if isinstance(operator, (ast.Is, ast.IsNot)):
+                    self.assertIn(getattr(right, "value", 0), (None, True, False), where)
+                    self.assertIsInstance(right, ast.Constant, where)
+        for where, node in self.nodes(ast.FunctionDef):
+            self.assertIsNone(node.returns, where)
+        for where, node in self.nodes(ast.arg):
+            self.assertIsNone(node.annotation, where)
+
+    def test_powers_are_written_out(self):
+        for where, node in self.nodes(ast.BinOp):
+            if isinstance(node.op, ast.Pow):
+                self.assertIsInstance(node.right, ast.Constant, where)
+                self.assertIn(node.right.value, range(65), where)
+
     def test_methods(self):
         own = {node.name for where, node in self.nodes(ast.FunctionDef)}
         for where, node in self.nodes(ast.Call):

@@ -2,6 +2,7 @@
 
 from totecombos.cards import MOST_BYTES, read_pools
 from totecombos.combos import count_before, count_from, is_combination, next_with, row_at
+from totecombos.counts import choices
 
 NONE_SUCH = -1
 TOO_LONG = -2
@@ -11,6 +12,9 @@ TOO_MANY = -9
 
 # A runner's next combination is told of no pool with more.
 MOST_COMBINATIONS = 65536
+
+# What choose takes greater numbers for.
+MOST_THINGS = 64
 
 
 def refusal_of(pool, text, pools):
@@ -78,3 +82,8 @@ def next_of(pool, number, runner, text):
         return [TOO_MANY]
     found = next_with(pools[pool], number, runner)
     return [NONE_SUCH] if found is None else [0, found]
+
+
+def choose(n, k):
+    """0, how many sets of k there are of n things, modulo 2 ** 64; above 64 both are taken for 64."""
+    return [0, choices(min(n, MOST_THINGS), min(k, MOST_THINGS)) % 2 ** 64]
